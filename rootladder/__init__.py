@@ -1,0 +1,1 @@
+"""Rootladder: roots of whole numbers that are no squares."""
